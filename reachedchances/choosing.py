@@ -9,14 +9,14 @@ def has_more_so(group, first, second):
     return group.so[first] * group.not_so[second] > group.so[second] * group.not_so[first]
 
 
-def put_in_order(scores, is_ahead):
-    """The scores, each behind those that it is not ahead of; like ones stay as they came."""
+def put_in_order(given, is_ahead):
+    """What is given, each behind those that it is not ahead of; like ones stay as they came."""
     order = []
-    for score in scores:
+    for one in given:
         place = 0
-        while place < len(order) and not is_ahead(score, order[place]):
+        while place < len(order) and not is_ahead(one, order[place]):
             place = place + 1
-        order.insert(place, score)
+        order.insert(place, one)
     return order
 
 

@@ -1,17 +1,21 @@
 """The calls on one object, which holds two groups, and what they answer."""
 
-from reachedchances.choosing import fewest_chances, most_chances
 from reachedchances.parts import reduced
 from reachedchances.people import Group, lacks_somebody, part_chosen
+from reachedchances.reaching import can_reach, chances_for, corner_xs, fewest_y, most_y
+from reachedchances.worth import best_of
 
 NO_SUCH = -2
 NOT_BEGUN = -11
 NOT_RIGHT = -22
 LACKING = -33
+NOT_REACHED = -34
+NOT_REFUSED = 0
 
 MOST_SCORES = 4
 MOST_PEOPLE = 99
 MOST_LOWER = 1000
+MOST_GAIN = 100
 
 BEGIN = 0
 CHANCES = 4
@@ -45,9 +49,43 @@ def is_part(upper, lower):
     return is_lower(lower) and upper <= lower
 
 
+def are_parts(numbers):
+    """Whether a, b, c, d may be told as parts, a by b and c by d."""
+    return is_part(numbers[0], numbers[1]) and is_part(numbers[2], numbers[3])
+
+
+def are_gain_and_loss(numbers):
+    """Whether u, v may be told as a gain and a loss."""
+    return numbers[0] <= MOST_GAIN and numbers[1] <= MOST_GAIN
+
+
 def is_somebody_lacking(table):
     """Whether some group has nobody who turned out so, or nobody who turned out not so."""
     return any([lacks_somebody(group) for group in table.groups])
+
+
+def refusal_of_both(table, is_right):
+    """The refusal that is due of a call on both groups, where it is told whether what is given is right."""
+    if not is_right:
+        return NOT_RIGHT
+    if is_somebody_lacking(table):
+        return LACKING
+    return NOT_REFUSED
+
+
+def refusal_of_one(table, g, is_right):
+    """The refusal that is due of a call on group g, likewise."""
+    if not has_group(table, g):
+        return NO_SUCH
+    return refusal_of_both(table, is_right)
+
+
+def laid_out(parts):
+    """The fractions' numbers one behind another."""
+    numbers = []
+    for part in parts:
+        numbers.extend(part)
+    return numbers
 
 
 def answer_begin(table, numbers):
@@ -109,39 +147,106 @@ def answer_chances(table, numbers):
 def answer_point(table, numbers):
     """point (g)"""
     g = numbers[0]
-    if not has_group(table, g):
-        return [NO_SUCH]
-    if is_somebody_lacking(table):
-        return [LACKING]
+    refusal = refusal_of_one(table, g, True)
+    if refusal != NOT_REFUSED:
+        return [refusal]
     group = table.groups[g]
     x = part_chosen(group.not_so, group.chances)
     y = part_chosen(group.so, group.chances)
-    return [0, x[0], x[1], y[0], y[1]]
+    return [0] + laid_out([x, y])
 
 
-def answer_bound(table, numbers, chances_for):
-    """The y of a group's chances for x a by b, where the numbers are g, a, b."""
+def answer_bound(table, numbers, bound):
+    """The bound that a group has for x a by b, where the numbers are g, a, b."""
     g = numbers[0]
-    x = (numbers[1], numbers[2])
-    if not has_group(table, g):
-        return [NO_SUCH]
-    if not is_part(x[0], x[1]):
-        return [NOT_RIGHT]
-    if is_somebody_lacking(table):
-        return [LACKING]
-    group = table.groups[g]
-    y = part_chosen(group.so, chances_for(group, x))
-    return [0, y[0], y[1]]
+    refusal = refusal_of_one(table, g, is_part(numbers[1], numbers[2]))
+    if refusal != NOT_REFUSED:
+        return [refusal]
+    return [0] + laid_out([bound(table.groups[g], reduced(numbers[1], numbers[2]))])
 
 
 def answer_upper(table, numbers):
     """upper (g, a, b)"""
-    return answer_bound(table, numbers, most_chances)
+    return answer_bound(table, numbers, most_y)
 
 
 def answer_lower(table, numbers):
     """lower (g, a, b)"""
-    return answer_bound(table, numbers, fewest_chances)
+    return answer_bound(table, numbers, fewest_y)
+
+
+def answer_can(table, numbers):
+    """can (g, a, b, c, d)"""
+    g = numbers[0]
+    refusal = refusal_of_one(table, g, are_parts(numbers[1:]))
+    if refusal != NOT_REFUSED:
+        return [refusal]
+    x = reduced(numbers[1], numbers[2])
+    y = reduced(numbers[3], numbers[4])
+    return [1 if can_reach(table.groups[g], x, y) else 0]
+
+
+def answer_reach(table, numbers):
+    """reach (g, a, b, c, d)"""
+    g = numbers[0]
+    refusal = refusal_of_one(table, g, are_parts(numbers[1:]))
+    if refusal != NOT_REFUSED:
+        return [refusal]
+    group = table.groups[g]
+    x = reduced(numbers[1], numbers[2])
+    y = reduced(numbers[3], numbers[4])
+    if not can_reach(group, x, y):
+        return [NOT_REACHED]
+    group.chances = chances_for(group, x, y)
+    return [table.scores] + laid_out(group.chances)
+
+
+def answer_both(table, numbers):
+    """both (a, b, c, d)"""
+    refusal = refusal_of_both(table, are_parts(numbers))
+    if refusal != NOT_REFUSED:
+        return [refusal]
+    x = reduced(numbers[0], numbers[1])
+    y = reduced(numbers[2], numbers[3])
+    return [1 if all([can_reach(group, x, y) for group in table.groups]) else 0]
+
+
+def answer_corners(table, numbers):
+    """corners (g)"""
+    g = numbers[0]
+    refusal = refusal_of_one(table, g, True)
+    if refusal != NOT_REFUSED:
+        return [refusal]
+    group = table.groups[g]
+    xs = corner_xs(group)
+    answer = [len(xs)]
+    for x in xs:
+        answer.extend(laid_out([x, most_y(group, x)]))
+    return answer
+
+
+def answer_best(table, numbers):
+    """best (u, v)"""
+    refusal = refusal_of_both(table, are_gain_and_loss(numbers))
+    if refusal != NOT_REFUSED:
+        return [refusal]
+    return [0] + laid_out(best_of(table.groups, numbers[0], numbers[1]))
+
+
+def answer_take(table, numbers):
+    """take (u, v)"""
+    refusal = refusal_of_both(table, are_gain_and_loss(numbers))
+    if refusal != NOT_REFUSED:
+        return [refusal]
+    best = best_of(table.groups, numbers[0], numbers[1])
+    for group in table.groups:
+        group.chances = chances_for(group, best[0], best[1])
+    return [0]
+
+
+def answer_state(table, numbers):
+    """state (), which has no numbers"""
+    return [table.scores] + laid_out(table.groups[0].chances + table.groups[1].chances)
 
 
 # Both by a call's number: what answers it, and how many numbers stand behind that number ahead of a row's own.
@@ -154,8 +259,15 @@ ANSWERING = (
     answer_point,
     answer_upper,
     answer_lower,
+    answer_can,
+    answer_reach,
+    answer_both,
+    answer_corners,
+    answer_best,
+    answer_take,
+    answer_state,
 )
-SIZES = (1, 4, 2, 1, 3, 1, 3, 3)
+SIZES = (1, 4, 2, 1, 3, 1, 3, 3, 5, 5, 4, 1, 2, 2, 0)
 
 
 def end_of_call(calls, start):

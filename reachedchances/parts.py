@@ -1,4 +1,4 @@
-"""Fractions: each a tuple of its upper and its lower number, with nothing in common."""
+"""Fractions: each a tuple of its upper and its lower number, with nothing in common, the lower one 1 or more."""
 
 ZERO = (0, 1)
 ONE = (1, 1)
@@ -24,6 +24,21 @@ def plus(left, right):
     return reduced(left[0] * right[1] + right[0] * left[1], left[1] * right[1])
 
 
+def minus(left, right):
+    """The left fraction less the right one."""
+    return reduced(left[0] * right[1] - right[0] * left[1], left[1] * right[1])
+
+
+def product(left, right):
+    """The left fraction times the right one."""
+    return reduced(left[0] * right[0], left[1] * right[1])
+
+
+def quotient(left, right):
+    """The left fraction by the right one, which is above 0."""
+    return reduced(left[0] * right[1], left[1] * right[0])
+
+
 def times(part, many):
     """A fraction taken so many times."""
     return reduced(part[0] * many, part[1])
@@ -32,3 +47,18 @@ def times(part, many):
 def divided(part, many):
     """A fraction divided by a whole number, which is 1 or more."""
     return reduced(part[0], part[1] * many)
+
+
+def size(part):
+    """How far the fraction is from 0."""
+    return (abs(part[0]), part[1])
+
+
+def is_less(left, right):
+    """Whether the left fraction is less than the right one."""
+    return left[0] * right[1] < right[0] * left[1]
+
+
+def lesser(left, right):
+    """The lesser of both fractions."""
+    return right if is_less(right, left) else left

@@ -4,7 +4,7 @@ import itertools
 import unittest
 from fractions import Fraction
 
-from lines import BIG, LineCase, begin, chances, count, laid, lower, point, told, upper
+from lines import BIG, LineCase, begin, chances, count, laid, lower, point, told, upper, y_of_all_ends
 from reachedchances.choosing import fewest_chances, most_chances, scores_from_other_end, scores_in_order
 from reachedchances.groups import answers
 from reachedchances.people import Group
@@ -203,24 +203,6 @@ class Orders(unittest.TestCase):
         sure = group_of([(0, 2), (3, 0), (0, 0), (1, 2)])
         self.assertEqual(most_chances(sure, (0, 1)), [(0, 1), (1, 1), (0, 1), (0, 1)])
         self.assertEqual(fewest_chances(sure, (1, 1)), [(1, 1), (0, 1), (0, 1), (1, 1)])
-
-
-def y_of_all_ends(cells, x):
-    """The y of all chances that make x and have at most one score chosen neither whole nor not at all.
-
-    The greatest and the least y for x are among these, whatever the order of scores.
-    """
-    wanted = x * sum(n for y, n in cells)
-    found = []
-    for whole in itertools.product((0, 1), repeat=len(cells)):
-        rest = wanted - sum(n for (y, n), chosen in zip(cells, whole) if chosen)
-        chosen_so = sum(y for (y, n), chosen in zip(cells, whole) if chosen)
-        if rest == 0:
-            found.append(Fraction(chosen_so))
-        for (y, n), chosen in zip(cells, whole):
-            if not chosen and 0 < rest < n:
-                found.append(chosen_so + y * rest / n)
-    return [y / sum(y for y, n in cells) for y in found]
 
 
 class AgainstAllEnds(unittest.TestCase):

@@ -6,19 +6,24 @@ import io
 import unittest
 from unittest import mock
 
-from lines import LineCase, begin, cell, chances, count, laid, lower, people, point, told, upper
+from lines import (LineCase, begin, best, both, can, cell, chances, corners, count, laid, lower, people, point, reach,
+                   state, take, told, upper)
 from reachedchances import groups
 from reachedchances.groups import answers
 
 ALL_KINDS = laid([call for call, answer in told([(1, 2), (3, 2)], [(1, 1), (2, 0)])] + [
     chances(0, 3, [1, 2]), chances(1, 1, [2] * 255), point(0), upper(0, 1, 4), lower(0, 1, 4), cell(1, 0), people(1),
     begin(0), point(2),
+    can(0, 1, 4, 3, 8), both(1, 4, 3, 8), corners(1), best(1, 1), reach(0, 1, 2, 1, 2), state(), take(1, 1), state(),
+    reach(0, 0, 1, 1, 1),
 ])
 
 ALL_KINDS_ANSWERED = [
     1, 0, 1, 3, 1, 5, 1, 2, 1, 2,
     1, 0, 1, -22, 5, 0, 1, 2, 7, 12, 3, 0, 3, 8, 3, 0, 1, 8, 2, 1, 1, 2, 4, 3,
     1, -22, 1, -2,
+    1, 1, 1, 1, 13, 3, 0, 1, 2, 3, 0, 1, 2, 3, 1, 1, 1, 1, 7, 0, 1, 2, 3, 4, 11, 4,
+    5, 2, 1, 2, 1, 2, 9, 2, 1, 2, 1, 2, 0, 1, 0, 1, 1, 0, 9, 2, 0, 1, 1, 1, 1, 2, 7, 8, 1, -34,
 ]
 
 
@@ -62,6 +67,34 @@ class Interface(LineCase):
         self.assertEqual(len(pairs), 40)
         self.asked(*pairs)
 
+    def test_forty_calls_that_change_chances_and_people(self):
+        told_state = [2, 5, 6, 1, 6, 1, 1, 0, 1]
+        pairs = told([(3, 1), (1, 3)], [(1, 0), (1, 2)]) + [
+            (state(), [2, 0, 1, 0, 1, 0, 1, 0, 1]),
+            (take(1, 1), [0]), (state(), [2, 4, 5, 0, 1, 1, 1, 1, 5]),
+            (point(0), [0, 1, 5, 3, 5]), (point(1), [0, 1, 5, 3, 5]),
+            (reach(0, 1, 2, 1, 2), [2, 1, 2, 1, 2]), (state(), [2, 1, 2, 1, 2, 1, 1, 1, 5]),
+            (chances(1, 10, [3, 7]), [0]), (state(), [2, 1, 2, 1, 2, 3, 10, 7, 10]),
+            (count(1, 0, 2, 1), [3]), (state(), [2, 1, 2, 1, 2, 3, 10, 7, 10]), (point(1), [0, 17, 30, 13, 30]),
+            (best(1, 1), [0, 1, 3, 2, 3, 7, 3]), (both(1, 3, 2, 3), [1]), (can(1, 1, 3, 3, 4), [0]),
+            (reach(1, 1, 3, 3, 4), [-34]), (state(), [2, 1, 2, 1, 2, 3, 10, 7, 10]),
+            (take(101, 1), [-22]), (take(1, 1), [0]), (state(), told_state),
+            (corners(1), [3, 0, 1, 0, 1, 1, 3, 2, 3, 1, 1, 1, 1]),
+            (upper(0, 1, 3), [0, 7, 9]), (lower(0, 1, 3), [0, 1, 9]),
+            (count(0, 0, 0, 1), [1]), (count(0, 1, 0, 3), [3]),
+            (reach(1, 1, 3, 2, 3), [-33]), (take(1, 1), [-33]), (state(), told_state),
+            (people(0), [4, 0]), (cell(1, 0), [2, 1]), (chances(0, 3, [4, 0]), [-22]),
+            (count(0, 0, 3, 1), [4]), (point(0), [0, 1, 3, 5, 6]),
+            (begin(0), [-22]), (state(), told_state),
+        ]
+        self.assertEqual(len(pairs), 40)
+        self.asked(*pairs)
+        calls = laid([call for call, answer in pairs])
+        handed_in = list(calls)
+        self.assertEqual(answers(handed_in), answers(handed_in))
+        self.assertEqual(handed_in, calls)
+        self.assertEqual(answers(OnlyRead(calls)), answers(calls))
+
     def test_forty_calls_with_the_longest_rows(self):
         self.asked((begin(4), [0]), *[(chances(0, 1, [1] * 255), [-22])] * 39)
 
@@ -85,6 +118,8 @@ class Interface(LineCase):
     def test_nothing_is_kept_from_one_time_to_the_next(self):
         self.assertEqual(answers(list(ALL_KINDS)), answers(list(ALL_KINDS)))
         self.asked((people(0), [-11]))
+        self.asked((state(), [-11]))
+        self.asked((begin(2), [0]), (state(), [2] + [0, 1] * 4))
         self.asked((begin(2), [0]), (people(0), [0, 0]), (cell(1, 0), [0, 0]))
         self.asked(*told([(1, 2), (3, 2)], [(1, 1), (2, 0)]), (point(0), [0, 0, 1, 0, 1]))
 

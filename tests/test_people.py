@@ -2,7 +2,8 @@
 
 import unittest
 
-from lines import BIG, LineCase, begin, cell, chances, count, lower, people, point, upper
+from lines import (BIG, LineCase, begin, best, both, can, cell, chances, corners, count, lower, people, point, reach,
+                   state, take, upper)
 
 EVERY_OTHER = (
     count(0, 0, 1, 1),
@@ -12,6 +13,13 @@ EVERY_OTHER = (
     point(0),
     upper(0, 1, 2),
     lower(0, 1, 2),
+    can(0, 1, 2, 1, 2),
+    reach(0, 1, 2, 1, 2),
+    both(1, 2, 1, 2),
+    corners(0),
+    best(1, 1),
+    take(1, 1),
+    state(),
 )
 
 WRONG_EVERY_OTHER = (
@@ -23,6 +31,12 @@ WRONG_EVERY_OTHER = (
     point(2),
     upper(2, 2, 1),
     lower(2, 1, 0),
+    can(2, 1, 0, 2, 1),
+    reach(BIG, 2, 1, 1, 0),
+    both(1, 0, 2, 1),
+    corners(2),
+    best(101, BIG),
+    take(BIG, 101),
 )
 
 
@@ -58,7 +72,9 @@ class Begin(LineCase):
             (count(1, 1, 5, 6), [11]),
             (chances(0, 2, [1, 2]), [0]),
             (chances(1, 2, [1, 2]), [0]),
+            (state(), [2, 1, 2, 1, 1, 1, 2, 1, 1]),
             (begin(2), [0]),
+            (state(), [2, 0, 1, 0, 1, 0, 1, 0, 1]),
             (people(0), [0, 0]),
             (people(1), [0, 0]),
             (cell(0, 0), [0, 0]),
