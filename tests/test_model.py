@@ -1,4 +1,4 @@
-"""Many lines of calls, compared with a second program that looks through all ends instead of going by the order."""
+"""Many lines of calls, compared with a second program; it finds bounds from all ends, the best from lines that meet."""
 
 import random
 import unittest
